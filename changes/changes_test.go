@@ -46,6 +46,32 @@ func TestDo(t *testing.T) {
 	}
 }
 
+// What becomes of the two files, fuse by fuse; the fourth change is needed only if there is one that is not done.
+func TestRewrite(t *testing.T) {
+	old := api.File{Name: "a", Data: "0"}
+	half := api.File{Name: "a.tmp", Data: "ha"}
+	for i, one := range []struct {
+		fuse  int
+		files []api.File
+		left  []api.File
+		why   api.Errno
+	}{
+		{-1, nil, []api.File{{Name: "a", Data: "new", Synced: 3}}, api.OK},
+		{3, []api.File{old}, []api.File{{Name: "a", Data: "new", Synced: 3}}, api.OK},
+		{4, []api.File{old, half}, []api.File{{Name: "a", Data: "new", Synced: 3}}, api.OK},
+		{3, []api.File{old, half}, []api.File{old, {Name: "a.tmp", Data: "new", Synced: 3}}, api.ErrPower},
+		{2, []api.File{old, half}, []api.File{old, {Name: "a.tmp", Data: "new"}}, api.ErrPower},
+		{1, []api.File{old, half}, []api.File{old, {Name: "a.tmp", Data: "new"}}, api.ErrPower},
+		{0, []api.File{old, half}, []api.File{old, half}, api.ErrPower},
+		{2, []api.File{old}, []api.File{old, {Name: "a.tmp", Data: "new", Synced: 3}}, api.ErrPower},
+	} {
+		d, why := changes.Do(api.Disk{Files: one.files, Fuse: one.fuse}, changes.Rewrite("a", "a.tmp", "new")...)
+		if !slices.Equal(d.Files, one.left) || why != one.why || d.Down != (why != api.OK) {
+			t.Errorf("%d: %v, error %d", i, d, why)
+		}
+	}
+}
+
 func TestNone(t *testing.T) {
 	d := made()
 	e := changes.None(d)

@@ -10,6 +10,7 @@ import (
 
 	"gaffer/api"
 	"gaffer/disk"
+	"gaffer/disktest"
 )
 
 const (
@@ -23,16 +24,12 @@ func file(name, data string, synced int) api.File {
 
 func disks(fuse int, files ...api.File) api.Disk { return api.Disk{Files: files, Fuse: fuse} }
 
-// clone has memory of its own.
-func clone(d api.Disk) api.Disk {
-	d.Files = append([]api.File{}, d.Files...)
-	return d
-}
-
-// same takes nil and empty lists for alike.
-func same(a, b api.Disk) bool {
-	return slices.Equal(a.Files, b.Files) && a.Down == b.Down && a.Fuse == b.Fuse
-}
+// What the tests of all that stands on a disk have.
+var (
+	clone = disktest.Clone
+	same  = disktest.Same
+	brief = disktest.Brief
+)
 
 func nothing(d api.Disk) bool { return same(d, api.Disk{}) }
 
@@ -82,17 +79,6 @@ func look(t *testing.T, d api.Disk, c call, want api.Disk, why api.Errno) {
 	if !same(d, was) {
 		t.Errorf("%s: what was handed in is changed", c.what)
 	}
-}
-
-func brief(d api.Disk) string {
-	s := "fuse " + strconv.Itoa(d.Fuse) + ", " + strconv.Itoa(len(d.Files)) + " files"
-	if d.Down {
-		s = "down, " + s
-	}
-	for _, f := range d.Files[:min(5, len(d.Files))] {
-		s += " " + strconv.Quote(f.Name) + ":" + strconv.Quote(f.Data) + ":" + strconv.Itoa(f.Synced)
-	}
-	return s
 }
 
 // wrong are disks made by hand that are not right.
@@ -510,27 +496,10 @@ func TestNewMemory(t *testing.T) {
 	for _, l := range bad {
 		calls = append(calls, l...)
 	}
-	spare := file("spare", "spare", 5)
-	for _, fuse := range []int{-1, 0, 5} {
-		for _, down := range []bool{false, true} {
-			for _, c := range calls {
-				room := append(slices.Clone(made.Files), spare, spare, spare)
-				d := api.Disk{Files: room[:2], Down: down, Fuse: fuse}
-				whole := slices.Clone(room)
-				first, why := c.do(d)
-				told := clone(first)
-				again, whyAgain := c.do(d)
-				if !same(again, first) || whyAgain != why {
-					t.Errorf("%s: asked again it is another one", c.what)
-				}
-				spoil(again.Files)
-				if !slices.Equal(room, whole) || !same(first, told) {
-					t.Errorf("%s, fuse %d, down %t: the answer shares memory", c.what, fuse, down)
-				}
-				spoil(room)
-				if !same(first, told) {
-					t.Errorf("%s, fuse %d, down %t: the answer shares memory with what was handed in", c.what, fuse, down)
-				}
+	for _, d := range []api.Disk{made, disktest.Down(made)} {
+		for _, c := range calls {
+			if shares := disktest.Shares(d, c.do); shares != "" {
+				t.Errorf("%s, down %t, %s", c.what, d.Down, shares)
 			}
 		}
 	}

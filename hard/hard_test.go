@@ -8,6 +8,7 @@ import (
 
 	"gaffer/api"
 	"gaffer/disk"
+	"gaffer/disktest"
 	"gaffer/hard"
 	"gaffer/pack"
 )
@@ -44,42 +45,16 @@ func content(h api.Hard) string {
 	return frame(pack.Number(h.Term) + pack.Number(uint64(h.Vote)))
 }
 
-func file(name, data string) api.File {
-	return api.File{Name: name, Data: data, Synced: len(data)}
-}
-
-func disks(files ...api.File) api.Disk { return api.Disk{Files: files, Fuse: -1} }
-
-// saved has h, and other files whose names are nearly its own; some of them are not synced.
+// saved has h, and other files whose names are nearly its own.
 func saved(h api.Hard) api.Disk {
-	return disks(append(others()[:3:3], append([]api.File{file("hard", content(h))}, others()[3:]...)...)...)
+	return disktest.With(others(), disktest.File("hard", content(h)))
 }
 
-func others() []api.File {
-	return []api.File{{Name: "", Data: "x"}, {Name: "Hard", Data: "xy", Synced: 1}, {Name: "har", Data: "xy"}, {Name: "hard.tm", Data: "xy"}, {Name: "hard.tmp2", Data: "xy", Synced: 1}, {Name: "hard2", Data: "xyz", Synced: 2}, {Name: "w/0000000000000001", Data: "x"}}
-}
+func others() api.Disk { return disktest.Of(disktest.Beside("hard")...) }
 
 // undone is d with something that a Save did not come to the end of.
-func undone(d api.Disk, f api.File) api.Disk {
-	d = clone(d)
-	f.Name = "hard.tmp"
-	at, _ := slices.BinarySearchFunc(d.Files, f.Name, func(f api.File, name string) int {
-		if f.Name < name {
-			return -1
-		}
-		return 1
-	})
-	d.Files = slices.Insert(d.Files, at, f)
-	return d
-}
-
-func clone(d api.Disk) api.Disk {
-	d.Files = slices.Clone(d.Files)
-	return d
-}
-
-func same(a, b api.Disk) bool {
-	return slices.Equal(a.Files, b.Files) && a.Down == b.Down && a.Fuse == b.Fuse
+func undone(d api.Disk, data string) api.Disk {
+	return disktest.With(d, disktest.File("hard.tmp", data))
 }
 
 // 4.1: Check.
@@ -106,18 +81,17 @@ func loads(t *testing.T, what string, d api.Disk, want api.Hard, no api.Errno) {
 // 4.1: Load, and the chapter's example; what is not done, or of others, is not read.
 func TestLoad(t *testing.T) {
 	loads(t, "no files", api.Disk{}, api.Hard{}, api.OK)
-	loads(t, "other files", disks(others()...), api.Hard{}, api.OK)
-	loads(t, "only one that is not done", disks(file("hard.tmp", content(api.Hard{Term: 1}))), api.Hard{}, api.OK)
+	loads(t, "other files", others(), api.Hard{}, api.OK)
+	loads(t, "only one that is not done", disktest.Of(disktest.File("hard.tmp", content(api.Hard{Term: 1}))), api.Hard{}, api.OK)
 	for _, h := range rights() {
 		loads(t, "saved", saved(h), h, api.OK)
-		loads(t, "and another one that is not done", undone(saved(h), file("", content(api.Hard{Term: 77}))), h, api.OK)
+		loads(t, "and another one that is not done", undone(saved(h), content(api.Hard{Term: 77})), h, api.OK)
 	}
-	wet := saved(api.Hard{Term: 3, Vote: 1})
-	wet.Files[3].Synced, wet.Fuse = 0, 0
+	wet := api.Disk{Files: []api.File{{Name: "hard", Data: content(api.Hard{Term: 3, Vote: 1})}}}
 	loads(t, "not synced, and no fuse left", wet, api.Hard{Term: 3, Vote: 1}, api.OK)
 	size, payload := "\x00\x00\x00\x05", "\x02\x01\x02\x01\x07"
 	sum := pack.Sum(size + payload)
-	known := disks(file("hard", size+string([]byte{byte(sum >> 8), byte(sum)})+payload))
+	known := disktest.Of(disktest.File("hard", size+string([]byte{byte(sum >> 8), byte(sum)})+payload))
 	loads(t, "byte by byte", known, api.Hard{Term: 258, Vote: 7}, api.OK)
 }
 
@@ -126,7 +100,7 @@ func TestLoadWrong(t *testing.T) {
 	for what, d := range wrongDisks() {
 		loads(t, what, d, api.Hard{}, api.ErrState)
 	}
-	for what, d := range map[string]api.Disk{"nothing": {}, "saved": saved(api.Hard{Term: 1}), "no file of its": disks(file("hard", "x"))} {
+	for what, d := range map[string]api.Disk{"nothing": {}, "saved": saved(api.Hard{Term: 1}), "no file of its": disktest.Of(disktest.File("hard", "x"))} {
 		d.Down = true
 		loads(t, "without power: "+what, d, api.Hard{}, api.ErrPower)
 	}
@@ -147,59 +121,31 @@ func TestLoadWrong(t *testing.T) {
 		bad[fmt.Sprintf("the vote %d", vote)] = frame(pack.Number(5) + pack.Number(vote))
 	}
 	for what, s := range bad {
-		loads(t, what, disks(file("hard", s)), api.Hard{}, api.ErrForm)
+		loads(t, what, disktest.Of(disktest.File("hard", s)), api.Hard{}, api.ErrForm)
 	}
 }
 
 func wrongDisks() map[string]api.Disk {
-	var many []api.File
-	for i := range api.MaxFiles + 1 {
-		many = append(many, file(fmt.Sprintf("x%05d", i), ""))
-	}
-	h := file("hard", content(api.Hard{Term: 1}))
-	return map[string]api.Disk{
-		"too many files":     disks(many...),
-		"files that fall":    disks(h, file("a", "")),
-		"twice":              disks(h, h),
-		"synced, more":       disks(api.File{Name: "hard", Data: h.Data, Synced: len(h.Data) + 1}),
-		"another's, below 0": disks(file("a", ""), h, api.File{Name: "x", Synced: -1}),
-		"and without power":  {Files: []api.File{h, h}, Down: true},
-		"and no fuse left":   {Files: []api.File{h, h}},
-	}
+	return disktest.Wrong(disktest.File("hard", content(api.Hard{Term: 1})))
 }
 
-// row does what the chapter says of a Save, one by one; how many changes these are is told, too.
-func row(d api.Disk, h api.Hard) (api.Disk, int, api.Errno) {
-	list := []func() (api.Disk, api.Errno){
-		func() (api.Disk, api.Errno) { return disk.Add(d, "hard.tmp", content(h)) },
-		func() (api.Disk, api.Errno) { return disk.Sync(d, "hard.tmp") },
-		func() (api.Disk, api.Errno) { return disk.Swap(d, "hard.tmp", "hard") },
-	}
-	if slices.ContainsFunc(d.Files, func(f api.File) bool { return f.Name == "hard.tmp" }) {
-		list = append([]func() (api.Disk, api.Errno){func() (api.Disk, api.Errno) { return disk.Drop(d, "hard.tmp") }}, list...)
-	}
-	for _, c := range list {
-		var why api.Errno
-		if d, why = c(); why != api.OK {
-			return d, len(list), why
-		}
-	}
-	return d, len(list), api.OK
+func saves(h api.Hard) disktest.Call {
+	return func(d api.Disk) (api.Disk, api.Errno) { return hard.Save(d, h) }
 }
 
 // starts are disks on which is saved.
 func starts() map[string]api.Disk {
 	old := saved(api.Hard{Term: 5, Vote: 2})
-	bad := disks(file("hard", "no frame"))
+	bad := disktest.Of(disktest.File("hard", "no frame"))
 	return map[string]api.Disk{
-		"nothing":               disks(),
-		"other files":           disks(others()...),
+		"nothing":               disktest.Of(),
+		"other files":           others(),
 		"saved":                 old,
-		"not done":              undone(old, file("", content(api.Hard{Term: 9})[:7])),
-		"not done, not synced":  undone(old, api.File{Data: content(api.Hard{Term: 9}), Synced: 3}),
-		"not done, nothing yet": undone(disks(), file("", "")),
+		"not done":              undone(old, content(api.Hard{Term: 9})[:7]),
+		"not done, not synced":  disktest.With(old, api.File{Name: "hard.tmp", Data: content(api.Hard{Term: 9}), Synced: 3}),
+		"not done, nothing yet": undone(disktest.Of(), ""),
 		"what is none":          bad,
-		"what is none, twice":   undone(bad, file("", "xyz")),
+		"what is none, twice":   undone(bad, "xyz"),
 	}
 }
 
@@ -207,99 +153,65 @@ func starts() map[string]api.Disk {
 func TestSave(t *testing.T) {
 	for what, start := range starts() {
 		for _, h := range rights() {
-			_, n, _ := row(start, h)
-			for fuse := -1; fuse <= n+1; fuse++ {
-				d := clone(start)
-				d.Fuse = fuse
-				want, _, no := row(d, h)
-				got, why := hard.Save(d, h)
-				if !same(got, want) || why != no {
-					t.Errorf("%s, %v, fuse %d: %v, error %d; not %v, error %d", what, h, fuse, got, why, want, no)
-				}
-				if why == api.OK {
-					loads(t, what, got, h, api.OK)
-				} else if fuse < 0 || fuse >= n {
-					t.Errorf("%s, fuse %d: error %d", what, fuse, why)
-				}
-				if !slices.Equal(d.Files, start.Files) {
-					t.Errorf("%s: what was handed in is changed", what)
-				}
+			if s := disktest.Differs(start, saves(h), disktest.Rewrite(start, "hard", "hard.tmp", content(h))...); s != "" {
+				t.Errorf("%s, %v, %s", what, h, s)
 			}
+			d, _ := hard.Save(start, h)
+			loads(t, what, d, h, api.OK)
 		}
 	}
 }
 
-// 4.5: whatever a Save does, and a crash behind it.
+// 4.5: whatever a Save does, and whenever the power goes.
 func TestOthers(t *testing.T) {
 	for what, start := range starts() {
 		for fuse := -1; fuse < 6; fuse++ {
-			d := clone(start)
-			d.Fuse = fuse
-			d, _ = hard.Save(d, api.Hard{Term: 6, Vote: 7})
+			d, _ := hard.Save(disktest.Fused(start, fuse), api.Hard{Term: 6, Vote: 7})
 			if !slices.Equal(theirs(d), theirs(start)) {
-				t.Errorf("%s, fuse %d: other files are changed: %v", what, fuse, d.Files)
+				t.Errorf("%s, fuse %d: other files are changed: %s", what, fuse, disktest.Brief(d))
 			}
 		}
 	}
 }
 
-func theirs(d api.Disk) []api.File {
-	return slices.DeleteFunc(slices.Clone(d.Files), func(f api.File) bool { return f.Name == "hard" || f.Name == "hard.tmp" })
+func theirs(d api.Disk) []api.File { return disktest.Without(d, "hard", "hard.tmp").Files }
+
+func refuses(t *testing.T, what string, d api.Disk, h api.Hard, why api.Errno) {
+	t.Helper()
+	if s := disktest.Refuses(d, saves(h), why); s != "" {
+		t.Errorf("%s, %v, %s", what, h, s)
+	}
 }
 
 // 4.2: Check's error is the first one: with it nothing is done, and the disk is told, unless it is not right.
 func TestSaveWrong(t *testing.T) {
 	for _, h := range wrongs() {
 		for what, d := range starts() {
-			for _, fuse := range []int{-1, 0, 1} {
-				for _, down := range []bool{false, true} {
-					d.Fuse, d.Down = fuse, down
-					if e, why := hard.Save(d, h); !same(e, d) || why != api.ErrRange {
-						t.Errorf("%s, %v, fuse %d, down %t: %v, error %d", what, h, fuse, down, e, why)
-					}
-				}
-			}
+			refuses(t, what, d, h, api.ErrRange)
+			refuses(t, what, disktest.Down(d), h, api.ErrRange)
 		}
 		for what, d := range wrongDisks() {
-			if e, why := hard.Save(d, h); !same(e, api.Disk{}) || why != api.ErrRange {
-				t.Errorf("%s, %v: %v, error %d", what, h, e, why)
-			}
+			refuses(t, what, d, h, api.ErrRange)
 		}
 	}
 }
 
 // 4.2: of disks that are not right, without power, or without room.
 func TestSaveState(t *testing.T) {
+	h := api.Hard{Term: 6}
 	for what, d := range wrongDisks() {
-		if e, why := hard.Save(d, api.Hard{Term: 1}); !same(e, api.Disk{}) || why != api.ErrState {
-			t.Errorf("%s: %v, error %d", what, e, why)
-		}
+		refuses(t, what, d, h, api.ErrState)
 	}
 	for what, d := range starts() {
-		for _, fuse := range []int{-1, 0, 1} {
-			d.Fuse, d.Down = fuse, true
-			if e, why := hard.Save(d, api.Hard{Term: 1}); !same(e, d) || why != api.ErrPower {
-				t.Errorf("%s, without power, fuse %d: %v, error %d", what, fuse, e, why)
-			}
-		}
+		refuses(t, what, disktest.Down(d), h, api.ErrPower)
 	}
-	var files []api.File
-	for i := range api.MaxFiles - 1 {
-		files = append(files, file(fmt.Sprintf("x%05d", i), ""))
+	files := disktest.Many(api.MaxFiles - 1)
+	refuses(t, "no room", disktest.Of(append(files, disktest.File("hard", content(api.Hard{Term: 5})))...), h, api.ErrFull)
+	d, why := hard.Save(undone(disktest.Of(files...), "x"), h)
+	if why != api.OK || len(d.Files) != api.MaxFiles {
+		t.Errorf("room for one that is not done: %d files, error %d", len(d.Files), why)
 	}
-	full := disks(append([]api.File{file("hard", content(api.Hard{Term: 5}))}, files...)...)
-	for _, fuse := range []int{-1, 0, 1} {
-		full.Fuse = fuse
-		if e, why := hard.Save(full, api.Hard{Term: 6}); !same(e, full) || why != api.ErrFull {
-			t.Errorf("no room, fuse %d: error %d", fuse, why)
-		}
-	}
-	room := undone(disks(files...), file("", "x"))
-	e, why := hard.Save(room, api.Hard{Term: 6})
-	if why != api.OK || len(e.Files) != api.MaxFiles {
-		t.Errorf("room for one that is not done: %d files, error %d", len(e.Files), why)
-	}
-	loads(t, "room for one that is not done", e, api.Hard{Term: 6}, api.OK)
+	loads(t, "room for one that is not done", d, h, api.OK)
 }
 
 // 4.4: wherever the power goes, and whatever is kept; and behind it is saved again.
@@ -308,9 +220,7 @@ func TestPower(t *testing.T) {
 	for what, start := range starts() {
 		old, none := hard.Load(start)
 		for fuse := range 6 {
-			x := clone(start)
-			x.Fuse = fuse
-			x, why := hard.Save(x, next)
+			x, why := hard.Save(disktest.Fused(start, fuse), next)
 			for keep := range len(content(next)) + 2 {
 				left, no := disk.Crash(x, slices.Repeat([]int{keep}, len(x.Files)))
 				h, lost := hard.Load(left)
@@ -321,7 +231,7 @@ func TestPower(t *testing.T) {
 				again, also := hard.Save(left, api.Hard{Term: 7, Vote: 1})
 				loads(t, what+", saved again", again, api.Hard{Term: 7, Vote: 1}, api.OK)
 				if also != api.OK || len(again.Files) != len(theirs(start))+1 {
-					t.Errorf("%s, saved again: %v, error %d", what, again, also)
+					t.Errorf("%s, saved again: %s, error %d", what, disktest.Brief(again), also)
 				}
 			}
 		}
@@ -330,39 +240,15 @@ func TestPower(t *testing.T) {
 
 // 4.3: whatever is written into what was answered, what was handed in stays as it was, and the other way round; room behind its end, too.
 func TestNewMemory(t *testing.T) {
-	spare := api.File{Name: "spare", Data: "spare", Synced: 5}
 	for what, start := range starts() {
+		before, none := hard.Load(start)
 		for _, h := range []api.Hard{{Term: 6, Vote: 7}, {Vote: 8}} {
-			for _, down := range []bool{false, true} {
-				for fuse := -1; fuse < 5; fuse++ {
-					room := append(slices.Clone(start.Files), spare, spare, spare)
-					whole := slices.Clone(room)
-					d := api.Disk{Files: room[:len(start.Files)], Down: down, Fuse: fuse}
-					before, none := hard.Load(d)
-					first, why := hard.Save(d, h)
-					told := clone(first)
-					again, no := hard.Save(d, h)
-					if !same(again, first) || why != no {
-						t.Errorf("%s, fuse %d: asked again it is another one", what, fuse)
-					}
-					spoil(again.Files)
-					after, also := hard.Load(d)
-					if !slices.Equal(room, whole) || !same(first, told) || before != after || none != also {
-						t.Errorf("%s, fuse %d: the answer shares memory", what, fuse)
-					}
-					spoil(room)
-					if !same(first, told) {
-						t.Errorf("%s, fuse %d: the answer shares memory with what was handed in", what, fuse)
-					}
+			for _, d := range []api.Disk{start, disktest.Down(start)} {
+				if s := disktest.Shares(d, saves(h)); s != "" {
+					t.Errorf("%s, %v, %s", what, h, s)
 				}
 			}
 		}
-	}
-}
-
-func spoil(files []api.File) {
-	files = files[:cap(files)]
-	for i := range files {
-		files[i] = api.File{Name: "spoilt", Data: "spoilt", Synced: 1}
+		loads(t, what, start, before, none)
 	}
 }

@@ -6,6 +6,7 @@ import (
 
 	"gaffer/api"
 	"gaffer/disk"
+	"gaffer/disktest"
 	"gaffer/wal"
 )
 
@@ -70,12 +71,8 @@ func TestAppend(t *testing.T) {
 // refuses holds a refused Append against its error: nothing is done, whatever the fuse.
 func refuses(t *testing.T, what string, d api.Disk, l []api.Entry, want api.Errno) {
 	t.Helper()
-	for _, fuse := range []int{-1, 0, 1} {
-		x := clone(d)
-		x.Fuse = fuse
-		if e, why := wal.Append(x, l); !same(e, x) || why != want {
-			t.Errorf("%s, fuse %d: %s, error %d, not %d", what, fuse, brief(e), why, want)
-		}
+	if differs := disktest.Refuses(d, appends(l...), want); differs != "" {
+		t.Errorf("%s, %s", what, differs)
 	}
 }
 

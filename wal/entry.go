@@ -5,6 +5,7 @@ import (
 
 	"gaffer/api"
 	"gaffer/pack"
+	"gaffer/parts"
 )
 
 const dataMax = api.MaxData / 16 // bytes of an order's Data
@@ -33,19 +34,31 @@ func Encode(e api.Entry) (string, api.Errno) {
 		b.WriteString(pack.Number(n))
 	}
 	b.WriteString(pack.Text(e.Data))
-	b.WriteString(pack.Number(uint64(len(e.Members))))
-	for _, m := range e.Members {
-		b.WriteString(pack.Number(uint64(m)))
-	}
+	b.WriteString(parts.Members(e.Members))
 	return b.String(), api.OK
 }
 
 func Decode(s string) (api.Entry, api.Errno) {
-	e, rest, why := takeEntry(s)
-	if why != api.OK || rest != "" || !right(e) {
+	t := parts.Of(s)
+	var n numbers
+	for i := range n {
+		n[i] = t.Number()
+	}
+	e := api.Entry{Index: n[0], Term: n[1], Kind: kindOf(n[2])}
+	e.Data = t.Text()
+	e.Members = t.Members()
+	if !t.Done() || !right(e) {
 		return api.Entry{}, api.ErrForm
 	}
 	return e, api.OK
+}
+
+// kindOf is none of a number that is no kind's: held against the limit ahead of the conversion, which may wrap round.
+func kindOf(n uint64) api.EntryKind {
+	if n >= uint64(api.EntryCount) {
+		return api.EntryNone
+	}
+	return api.EntryKind(n)
 }
 
 func right(e api.Entry) bool {
@@ -72,50 +85,4 @@ func rightMembers(members []int) bool {
 		last = m
 	}
 	return len(members) > 0
-}
-
-// takeEntry answers what stands at the beginning of s, right or not, and what is behind it.
-func takeEntry(s string) (api.Entry, string, api.Errno) {
-	var n numbers
-	var why api.Errno
-	for i := range n {
-		if n[i], s, why = pack.TakeNumber(s); why != api.OK {
-			return api.Entry{}, "", why
-		}
-	}
-	// Held against the limit ahead of the conversion, which may wrap round.
-	if n[2] >= uint64(api.EntryCount) {
-		return api.Entry{}, "", api.ErrForm
-	}
-	data, s, why := pack.TakeText(s)
-	if why != api.OK {
-		return api.Entry{}, "", why
-	}
-	members, s, why := takeMembers(s)
-	if why != api.OK {
-		return api.Entry{}, "", why
-	}
-	return api.Entry{Index: n[0], Term: n[1], Kind: api.EntryKind(n[2]), Data: data, Members: members}, s, api.OK
-}
-
-func takeMembers(s string) ([]int, string, api.Errno) {
-	count, s, why := pack.TakeNumber(s)
-	if why != api.OK {
-		return nil, "", why
-	}
-	if count > api.MaxReplicas {
-		return nil, "", api.ErrForm
-	}
-	var members []int
-	for range count {
-		var m uint64
-		if m, s, why = pack.TakeNumber(s); why != api.OK {
-			return nil, "", why
-		}
-		if m > api.MaxReplicas {
-			return nil, "", api.ErrForm
-		}
-		members = append(members, int(m))
-	}
-	return members, s, api.OK
 }

@@ -9,6 +9,7 @@ import (
 
 	"gaffer/api"
 	"gaffer/disk"
+	"gaffer/disktest"
 	"gaffer/pack"
 	"gaffer/wal"
 )
@@ -97,25 +98,19 @@ func content(l ...api.Entry) string {
 
 func name(first uint64) string { return fmt.Sprintf("w/%016x", first) }
 
-func file(name, data string) api.File {
-	return api.File{Name: name, Data: data, Synced: len(data)}
-}
+// What the tests of all that stands on a disk have.
+var (
+	file  = disktest.File
+	disks = disktest.Of
+	with  = disktest.With
+	clone = disktest.Clone
+	same  = disktest.Same
+	brief = disktest.Brief
+)
 
 // segment is a file of these entries, and of what is torn behind them.
 func segment(l []api.Entry, torn string) api.File {
 	return file(name(l[0].Index), content(l...)+torn)
-}
-
-// disks is one of these files, in whatever order they are.
-func disks(files ...api.File) api.Disk {
-	files = slices.Clone(files)
-	slices.SortFunc(files, func(a, b api.File) int {
-		if a.Name < b.Name {
-			return -1
-		}
-		return 1
-	})
-	return api.Disk{Files: files, Fuse: -1}
 }
 
 // cutUp is the disk of a log whose segments have so many entries each, the first one beginning at from.
@@ -137,35 +132,8 @@ func torn(d api.Disk, more string) api.Disk {
 	return d
 }
 
-// with is d with other files beside the log's.
-func with(d api.Disk, files ...api.File) api.Disk {
-	fuse := d.Fuse
-	d = disks(append(slices.Clone(d.Files), files...)...)
-	d.Fuse = fuse
-	return d
-}
-
-func clone(d api.Disk) api.Disk {
-	d.Files = slices.Clone(d.Files)
-	return d
-}
-
-func same(a, b api.Disk) bool {
-	return slices.Equal(a.Files, b.Files) && a.Down == b.Down && a.Fuse == b.Fuse
-}
-
-func nothing(d api.Disk) bool { return same(d, api.Disk{}) }
-
-func brief(d api.Disk) string {
-	s := fmt.Sprintf("down %t, fuse %d:", d.Down, d.Fuse)
-	for _, f := range d.Files[:min(8, len(d.Files))] {
-		s += fmt.Sprintf(" %s (%d of %d)", f.Name, f.Synced, len(f.Data))
-	}
-	return s
-}
-
 // change is one of the disk, or a whole call of wal's.
-type change func(d api.Disk) (api.Disk, api.Errno)
+type change = disktest.Call
 
 func put(first uint64, e api.Entry) change {
 	return func(d api.Disk) (api.Disk, api.Errno) { return disk.Add(d, name(first), content(e)) }
@@ -200,17 +168,6 @@ func trims(upto uint64) change {
 	return func(d api.Disk) (api.Disk, api.Errno) { return wal.Trim(d, upto) }
 }
 
-// row does changes one by one, till one is refused.
-func row(d api.Disk, list []change) (api.Disk, api.Errno) {
-	for _, c := range list {
-		var why api.Errno
-		if d, why = c(d); why != api.OK {
-			return d, why
-		}
-	}
-	return d, api.OK
-}
-
 // step is a call, and the changes of the disk that it is to do.
 type step struct {
 	what string
@@ -219,23 +176,10 @@ type step struct {
 	list []change
 }
 
-// look holds the call against the changes, whenever the power goes: so each of them is done, in that order, and no other.
 func (s step) look(t *testing.T) {
 	t.Helper()
-	for fuse := -1; fuse <= len(s.list)+1; fuse++ {
-		d := clone(s.d)
-		d.Fuse = fuse
-		want, no := row(d, s.list)
-		got, why := s.call(d)
-		if !same(got, want) || why != no {
-			t.Errorf("%s, fuse %d: %s, error %d; not %s, error %d", s.what, fuse, brief(got), why, brief(want), no)
-		}
-		if fuse == len(s.list) && (got.Fuse != 0 || why != api.OK) {
-			t.Errorf("%s: not all is done with a fuse of %d", s.what, fuse)
-		}
-		if !slices.Equal(d.Files, s.d.Files) {
-			t.Errorf("%s: what was handed in is changed", s.what)
-		}
+	if differs := disktest.Differs(s.d, s.call, s.list...); differs != "" {
+		t.Errorf("%s, %s", s.what, differs)
 	}
 }
 

@@ -7,6 +7,7 @@ import (
 
 	"gaffer/api"
 	"gaffer/disk"
+	"gaffer/disktest"
 	"gaffer/pack"
 	"gaffer/wal"
 )
@@ -20,20 +21,9 @@ func unable(t *testing.T, what string, d api.Disk, want api.Errno) {
 	if _, l, _ := wal.Open(d); len(l) != 0 {
 		t.Errorf("%s: Open: %d entries beside an error", what, len(l))
 	}
-	told := clone(d)
-	if want == api.ErrState {
-		told = api.Disk{}
-	}
 	for call, c := range map[string]change{"Open": opens, "Append": appends(some(1, 1)...), "Append of none": appends(), "Append of a wrong one": appends(api.Entry{}), "Append out of order": appends(lead(9), lead(9)), "Cut": cuts(1), "Cut of all": cuts(0), "Cut of none": cuts(most), "Trim": trims(most), "Trim of none": trims(0)} {
-		for _, fuse := range []int{-1, 0, 1, 9} {
-			x := clone(d)
-			x.Fuse = fuse
-			if want != api.ErrState {
-				told.Fuse = fuse
-			}
-			if e, why := c(x); !same(e, told) || why != want {
-				t.Errorf("%s: %s, fuse %d: %s, error %d, not %d", what, call, fuse, brief(e), why, want)
-			}
+		if differs := disktest.Refuses(d, c, want); differs != "" {
+			t.Errorf("%s: %s, %s", what, call, differs)
 		}
 	}
 }

@@ -5,16 +5,9 @@ import (
 	"testing"
 
 	"gaffer/api"
+	"gaffer/disktest"
 	"gaffer/wal"
 )
-
-// spoil writes all over the files, and the room behind them.
-func spoil(files []api.File) {
-	files = files[:cap(files)]
-	for i := range files {
-		files[i] = api.File{Name: "spoilt", Data: "spoilt", Synced: 1}
-	}
-}
 
 func spoilEntries(l []api.Entry) {
 	l = l[:cap(l)]
@@ -31,14 +24,6 @@ func spoilMembers(l []int) {
 	}
 }
 
-// roomy is d with room behind its files.
-func roomy(d api.Disk) (api.Disk, []api.File) {
-	spare := api.File{Name: "spare", Data: "spare", Synced: 5}
-	room := append(slices.Clone(d.Files), spare, spare, spare, spare, spare)
-	d.Files = room[:len(d.Files):len(room)]
-	return d, room
-}
-
 // 3.5, of the disk: whatever is written into what was answered, what was handed in stays as it was, and the other way round; room behind its end, too.
 func TestNewMemory(t *testing.T) {
 	down := cutUp(1, 4, 1)
@@ -49,24 +34,8 @@ func TestNewMemory(t *testing.T) {
 	}
 	for what, d := range map[string]api.Disk{"a log": cutUp(1, 4, 1), "torn": torn(cutUp(1, 4, 1), "x"), "no log": disks(file("a", "x")), "a gap": cutUp(1, 5, 4), "down": down} {
 		for call, c := range calls {
-			for _, fuse := range []int{-1, 0, 1, 2, 3} {
-				given, room := roomy(d)
-				given.Fuse = fuse
-				whole := slices.Clone(room)
-				first, why := c(given)
-				told := clone(first)
-				again, no := c(given)
-				if !same(again, first) || why != no {
-					t.Errorf("%s, %s, fuse %d: asked again it is another one", what, call, fuse)
-				}
-				spoil(again.Files)
-				if !slices.Equal(room, whole) || !same(first, told) {
-					t.Errorf("%s, %s, fuse %d: the answer shares memory", what, call, fuse)
-				}
-				spoil(room)
-				if !same(first, told) {
-					t.Errorf("%s, %s, fuse %d: the answer shares memory with what was handed in", what, call, fuse)
-				}
+			if shares := disktest.Shares(d, c); shares != "" {
+				t.Errorf("%s, %s, %s", what, call, shares)
 			}
 		}
 	}
