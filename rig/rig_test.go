@@ -9,6 +9,7 @@ import (
 	"testing"
 
 	"gaffer/api"
+	"gaffer/booktest"
 	"gaffer/rig"
 )
 
@@ -53,14 +54,12 @@ func TestName(t *testing.T) {
 	}
 }
 
-// listOf is of pairs: a Key, its Value, the next Key, and so on.
-func listOf(texts ...string) []api.Pair {
-	var l []api.Pair
-	for i := 0; i < len(texts); i += 2 {
-		l = append(l, api.Pair{Key: texts[i], Value: texts[i+1]})
-	}
-	return l
-}
+// What the tests of all that has to do with the cluster have.
+var (
+	listOf   = booktest.Pairs
+	someNode = booktest.SomeNode
+	someTask = booktest.SomeTask
+)
 
 // rightLists are of pairs that rise: by the Key, by bytes, then by the Value; some would fall, if both were held against each other as one text.
 func rightLists() [][]api.Pair {
@@ -143,14 +142,6 @@ func checksTask(t *testing.T, k api.Task, want api.Errno) {
 	if why := rig.CheckTask(k); why != want {
 		t.Errorf("CheckTask(%.200v): error %d, not %d", k, why, want)
 	}
-}
-
-func someNode() api.Node {
-	return api.Node{Name: "n-1", Has: amounts{4, 5, 6}, Labels: listOf("disk", "x", "zone", "a"), Taints: listOf("gpu", "")}
-}
-
-func someTask() api.Task {
-	return api.Task{Name: "t-1", Needs: amounts{1, 2, 3}, Wants: listOf("disk", "x"), Bears: listOf("gpu", "", "old", "yes"), Group: "g", Apart: "h", Rank: -7}
 }
 
 // 6.1: CheckNode, of one field that is at an edge, or behind it.
