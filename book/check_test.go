@@ -1,9 +1,7 @@
 package book_test
 
 import (
-	"fmt"
 	"math"
-	"slices"
 	"strings"
 	"testing"
 
@@ -11,98 +9,6 @@ import (
 	"gaffer/book"
 	"gaffer/booktest"
 )
-
-// rights are books at all edges.
-func rights() map[string]api.Book {
-	full := booktest.Full()
-	exact := api.Book{Nodes: []api.Node{{Name: "n", Has: amounts{64, api.MaxAmount, 0}}}}
-	for i := range api.MaxTasks {
-		t := api.Task{Name: fmt.Sprint("t", 100+i), Needs: amounts{2, api.MaxAmount / api.MaxTasks, 0}}
-		exact.Tasks = append(exact.Tasks, t)
-		exact.Binds = append(exact.Binds, api.Bind{Task: t.Name, Node: "n"})
-	}
-	return map[string]api.Book{
-		"nothing":                {},
-		"empty lists":            {Nodes: []api.Node{}, Tasks: []api.Task{}, Binds: []api.Bind{}},
-		"a fence alone":          {Fence: math.MaxUint64},
-		"some":                   some(),
-		"full":                   full,
-		"no binds":               with(func(b *api.Book) { b.Binds = nil }),
-		"nodes alone":            with(func(b *api.Book) { b.Binds, b.Tasks = nil, nil }),
-		"tasks alone":            with(func(b *api.Book) { b.Binds, b.Nodes = nil, nil }),
-		"all is used":            with(func(b *api.Book) { b.Nodes[2].Has = amounts{5, 0, 3} }),
-		"to the last":            exact,
-		"any fence":              with(func(b *api.Book) { b.Fence = math.MaxUint64 }),
-		"apart of its own group": with(func(b *api.Book) { b.Tasks[0].Apart = "red" }),
-		"apart, but elsewhere":   with(func(b *api.Book) { b.Tasks[2].Apart = "red" }),
-		"apart, but nowhere":     with(func(b *api.Book) { b.Tasks[3].Group, b.Tasks[4].Apart = "grey", "grey" }),
-		"no group, none apart":   with(func(b *api.Book) { b.Tasks[0].Group, b.Tasks[4].Group = "", "" }),
-		"one group":              with(func(b *api.Book) { b.Tasks[4].Group = "red" }),
-		"names by bytes":         {Nodes: []api.Node{{Name: "-"}, {Name: "0"}, {Name: "a"}, {Name: "a-"}, {Name: "a0"}, {Name: "aa"}, {Name: "b"}}},
-		"one name, two things":   {Nodes: []api.Node{{Name: "x"}}, Tasks: []api.Task{{Name: "x"}}, Binds: []api.Bind{{Task: "x", Node: "x"}}},
-	}
-}
-
-// wrongs are books with a fault each.
-func wrongs() map[string]api.Book {
-	full := booktest.Full()
-	list := map[string]api.Book{
-		"too many nodes":      {Nodes: append(slices.Clone(full.Nodes), api.Node{Name: "z"})},
-		"too many tasks":      {Tasks: append(slices.Clone(full.Tasks), api.Task{Name: "z"})},
-		"nodes fall":          {Nodes: []api.Node{{Name: "b"}, {Name: "a"}}},
-		"the last nodes fall": {Nodes: []api.Node{{Name: "a"}, {Name: "c"}, {Name: "b"}}},
-		"nodes fall by bytes": {Nodes: []api.Node{{Name: "a"}, {Name: "9"}}},
-		"a node twice":        {Nodes: []api.Node{{Name: "a"}, {Name: "a", Has: amounts{1}}}},
-		"tasks fall":          {Tasks: []api.Task{{Name: "b"}, {Name: "a"}}},
-		"the last tasks fall": {Tasks: []api.Task{{Name: "a"}, {Name: "c"}, {Name: "b"}}},
-		"a task twice":        {Tasks: []api.Task{{Name: "a"}, {Name: "a", Rank: 1}}},
-		"binds fall":          with(func(b *api.Book) { b.Binds[0], b.Binds[1] = b.Binds[1], b.Binds[0] }),
-		"the last binds fall": with(func(b *api.Book) { b.Binds[2], b.Binds[3] = b.Binds[3], b.Binds[2] }),
-		"a bind twice":        with(func(b *api.Book) { b.Binds = slices.Insert(b.Binds, 1, b.Binds[1]) }),
-		"on two nodes": with(func(b *api.Book) {
-			b.Binds = slices.Insert(b.Binds, 2, api.Bind{Task: "c", Node: "l"})
-			b.Tasks[2].Bears = nil
-			b.Binds[3].Node = "l"
-		}),
-		"on two nodes, falling": with(func(b *api.Book) { b.Binds = append(b.Binds, api.Bind{Task: "c", Node: "l"}) }),
-		"a want":                with(func(b *api.Book) { b.Tasks[0].Wants = booktest.Pairs("zone", "a") }),
-		"a want of the last":    with(func(b *api.Book) { b.Tasks[4].Wants = booktest.Pairs("zone", "a") }),
-		"a taint":               with(func(b *api.Book) { b.Tasks[1].Bears = booktest.Pairs("old", "") }),
-		"a taint more":          with(func(b *api.Book) { b.Nodes[2].Taints = booktest.Pairs("old", "") }),
-		"one's apart":           with(func(b *api.Book) { b.Tasks[4].Apart = "red" }),
-		"the other's apart":     with(func(b *api.Book) { b.Tasks[0].Apart, b.Tasks[4].Group = "grey", "grey" }),
-		"both apart":            with(func(b *api.Book) { b.Tasks[1].Group, b.Tasks[1].Apart = "green", "blue" }),
-		"of one group, apart":   with(func(b *api.Book) { b.Tasks[0].Apart, b.Tasks[4].Group = "red", "red" }),
-		"many binds of nothing": {Binds: slices.Repeat([]api.Bind{{}}, 1<<16)},
-	}
-	for kind := range api.Kinds {
-		list[fmt.Sprint("no room, kind ", kind)] = with(func(b *api.Book) {
-			b.Tasks[4].Needs[kind]++
-			b.Nodes[2].Has[kind] = b.Tasks[0].Needs[kind] + b.Tasks[4].Needs[kind] - 1
-		})
-		list[fmt.Sprint("too much for it alone, kind ", kind)] = with(func(b *api.Book) { b.Tasks[1].Needs[kind] = 10 })
-	}
-	for _, name := range []string{"", "0", "aa", "A", "l", "z"} {
-		on := api.Bind{Task: name, Node: "l"}
-		list["a bind of no task "+name] = with(func(b *api.Book) {
-			b.Binds = append(b.Binds, on)
-			booktest.Sort(*b)
-		})
-	}
-	for _, name := range []string{"", "0", "lm", "N", "a", "z"} {
-		list["a bind of no node "+name] = with(func(b *api.Book) { b.Binds[0].Node = name })
-		list["the last bind of no node "+name] = with(func(b *api.Book) { b.Binds[3].Node = name })
-	}
-	for i, w := range booktest.WrongNodes() {
-		list[fmt.Sprint("a node that is not right ", i)] = api.Book{Nodes: []api.Node{w.Node}}
-		list[fmt.Sprint("the last node is not right ", i)] = api.Book{Nodes: []api.Node{{Name: "-"}, w.Node}}
-	}
-	for i, w := range booktest.WrongTasks() {
-		list[fmt.Sprint("a task that is not right ", i)] = api.Book{Tasks: []api.Task{w.Task}}
-		list[fmt.Sprint("the last task is not right ", i)] = api.Book{Tasks: []api.Task{{Name: "-"}, w.Task}}
-	}
-	return list
-}
 
 // 8.1: Check.
 func TestCheck(t *testing.T) {

@@ -25,6 +25,21 @@ func TestRightAndWrong(t *testing.T) {
 			t.Errorf("task %d: error %d, not %d", i, why, w.Why)
 		}
 	}
+	for what, b := range booktest.RightBooks() {
+		if why := book.Check(b); why != api.OK {
+			t.Errorf("%s: error %d", what, why)
+		}
+	}
+	for what, b := range booktest.WrongBooks() {
+		if why := book.Check(b); why != api.ErrState {
+			t.Errorf("%s: error %d", what, why)
+		}
+	}
+	for _, o := range booktest.Orders() {
+		if _, told := book.Do(booktest.Some(), o); told.Why != api.OK {
+			t.Errorf("%v: told is %v", o, told)
+		}
+	}
 	if b := booktest.Full(); book.Check(b) != api.OK || len(b.Nodes) != api.MaxNodes || len(b.Tasks) != api.MaxTasks || len(b.Binds) != api.MaxTasks {
 		t.Error("Full:", booktest.Brief(b))
 	}

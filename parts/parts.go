@@ -34,14 +34,14 @@ func (t *Taker) Number() uint64 {
 	return n
 }
 
-// Upto takes a number that may be at most so much: held against that ahead of the conversion, which may wrap round.
-func (t *Taker) Upto(most int) int {
+// Upto takes a number that may be at most so much, so that it may be converted, and does not wrap round.
+func (t *Taker) Upto(most uint64) uint64 {
 	n := t.Number()
-	if n > uint64(most) {
+	if n > most {
 		t.goOn("", api.ErrForm)
 		return 0
 	}
-	return int(n)
+	return n
 }
 
 func (t *Taker) Text() string {
@@ -53,10 +53,17 @@ func (t *Taker) Text() string {
 // Members takes numbers of replicas, right ones or not, as Members makes them.
 func (t *Taker) Members() []int {
 	var members []int
-	for range t.Upto(api.MaxReplicas) {
-		members = append(members, t.Upto(api.MaxReplicas))
-	}
+	t.Times(api.MaxReplicas, func() {
+		members = append(members, int(t.Upto(api.MaxReplicas)))
+	})
 	return members
+}
+
+// Times takes how many there are, at most so many, and as often what stands behind that.
+func (t *Taker) Times(most uint64, take func()) {
+	for range t.Upto(most) {
+		take()
+	}
 }
 
 // Done tells whether all was there, and nothing is left.
@@ -69,12 +76,26 @@ func (t *Taker) goOn(rest string, why api.Errno) {
 	t.rest, t.wrong = rest, why != api.OK
 }
 
+// Maker has the bytes of the parts that were made so far.
+type Maker struct{ made strings.Builder }
+
+func (m *Maker) Number(n uint64) { m.made.WriteString(pack.Number(n)) }
+
+func (m *Maker) Text(s string) { m.made.WriteString(pack.Text(s)) }
+
+// Times makes how many there are, and each one, of which it tells the place.
+func (m *Maker) Times(many int, one func(at int)) {
+	m.Number(uint64(many))
+	for at := range many {
+		one(at)
+	}
+}
+
+func (m *Maker) Bytes() string { return m.made.String() }
+
 // Members are the bytes of numbers of replicas: how many, and each.
 func Members(members []int) string {
-	var b strings.Builder
-	b.WriteString(pack.Number(uint64(len(members))))
-	for _, m := range members {
-		b.WriteString(pack.Number(uint64(m)))
-	}
-	return b.String()
+	var m Maker
+	m.Times(len(members), func(at int) { m.Number(uint64(members[at])) })
+	return m.Bytes()
 }

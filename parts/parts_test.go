@@ -80,6 +80,35 @@ func TestTakeWrong(t *testing.T) {
 	}
 }
 
+// Of more than may be nothing is taken.
+func TestTimes(t *testing.T) {
+	for count, want := range map[uint64]int{0: 0, 1: 1, 4: 4, 5: 0, math.MaxUint64: 0} {
+		taken, sum := 0, uint64(0)
+		k := parts.Of(pack.Number(count) + pack.Number(7) + pack.Number(8) + pack.Number(9) + pack.Number(10))
+		k.Times(4, func() {
+			taken++
+			sum = 10*sum + k.Number()
+		})
+		if taken != want || k.Done() != (want == 4) || want == 4 && sum != 7900 {
+			t.Errorf("%d: taken are %d, %d", count, taken, sum)
+		}
+	}
+}
+
+func TestMake(t *testing.T) {
+	var m parts.Maker
+	if m.Bytes() != "" {
+		t.Errorf("nothing: %x", m.Bytes())
+	}
+	m.Number(300)
+	m.Text("two")
+	m.Times(3, func(at int) { m.Number(uint64(at)) })
+	m.Times(0, func(at int) { t.Error("made of nothing:", at) })
+	if m.Bytes() != "\x02\x01\x2c\x01\x03two\x01\x03\x00\x01\x01\x01\x02\x00" {
+		t.Errorf("made is %x", m.Bytes())
+	}
+}
+
 func TestMembers(t *testing.T) {
 	for want, l := range map[string][]int{"\x00": nil, "\x01\x01\x01\x07": {7}, "\x01\x03\x01\x01\x00\x02\x01\x00": {1, 0, 256}} {
 		if b := parts.Members(l); b != want {
