@@ -191,6 +191,18 @@ func Shares(b api.Book, o api.Order, call Call) string {
 	return ""
 }
 
+// Lasts tells whether an answer stays as it was when a later one, and the room behind its end, is written over.
+func Lasts[T any](ask func() []T, same func(a, b T) bool) bool {
+	first := ask()
+	kept, again := slices.Clone(first), ask()
+	if !slices.EqualFunc(kept, again, same) {
+		return false
+	}
+	var none T
+	fill(again, none)
+	return slices.EqualFunc(kept, first, same)
+}
+
 // ofOrder is a book of what the order has with lists; toOrder the order with that.
 func ofOrder(o api.Order) api.Book {
 	return api.Book{Nodes: []api.Node{o.Node}, Tasks: []api.Task{o.Task}}
