@@ -11,49 +11,20 @@ import (
 	"gaffer/api"
 	"gaffer/disk"
 	"gaffer/disktest"
+	"gaffer/logtest"
 	"gaffer/pack"
 	"gaffer/snap"
 )
 
-const (
-	most    = math.MaxUint64
-	dataMax = 64512
+const most = math.MaxUint64
+
+// What the tests of all that has snapshots have.
+var (
+	rights    = logtest.RightSnaps
+	wrongs    = logtest.WrongSnaps
+	sameSnap  = logtest.SameSnap
+	cloneSnap = logtest.CloneSnap
 )
-
-// rights are the one of nothing, and others at all edges.
-func rights() []api.Snap {
-	list := []api.Snap{{}, {Members: []int{}}}
-	for _, n := range []uint64{0, 1, 255, 256, 65536, api.MaxNumber, api.MaxNumber + 1, most} {
-		list = append(list, api.Snap{Index: n, Members: []int{1}}, api.Snap{Term: n, Members: []int{7}}, api.Snap{Index: n, Term: most - n, Members: []int{2, 5}, Data: "state"})
-	}
-	for _, members := range [][]int{{1}, {4}, {7}, {1, 7}, {1, 2, 3}, {2, 3, 5, 7}, {1, 2, 3, 4, 5, 6, 7}} {
-		list = append(list, api.Snap{Index: 16, Term: 2, Members: members, Data: "state"}, api.Snap{Members: members})
-	}
-	for _, size := range []int{1, 255, 256, 4096, 4097, 65535 - 1024, dataMax} {
-		list = append(list, api.Snap{Index: 16, Term: 2, Members: []int{1, 3}, Data: strings.Repeat("\x00", size)}, api.Snap{Index: most, Term: most, Members: []int{1, 2, 3, 4, 5, 6, 7}, Data: strings.Repeat("z", size)})
-	}
-	return list
-}
-
-func wrongs() []api.Snap {
-	list := []api.Snap{{Index: 1}, {Index: most}, {Term: 1}, {Term: most}, {Data: "x"}, {Data: "\x00"}, {Index: 1, Members: []int{}}, {Index: 1, Term: 1, Data: "state"}, {Data: strings.Repeat("x", dataMax+1)}}
-	for _, members := range [][]int{{0}, {-1}, {8}, {9}, {257}, {math.MaxInt}, {math.MinInt}, {1 << 32}, {1<<32 + 1}, {1, 1}, {2, 1}, {1, 3, 2}, {1, 2, 2}, {1, 0}, {0, 1}, {1, 2, 8}, {1, 2, 3, 4, 5, 6, 7, 7}, {1, 2, 3, 4, 5, 6, 7, 8}, {0, 1, 2, 3, 4, 5, 6, 7}, {7, 6, 5, 4, 3, 2, 1}} {
-		list = append(list, api.Snap{Members: members}, api.Snap{Index: 16, Term: 2, Members: members, Data: "state"})
-	}
-	for _, size := range []int{dataMax + 1, dataMax + 2, api.MaxData - 1, api.MaxData, api.MaxData + 1, 2 * api.MaxData} {
-		list = append(list, api.Snap{Index: 16, Term: 2, Members: []int{1, 3}, Data: strings.Repeat("x", size)}, api.Snap{Members: []int{1}, Data: strings.Repeat("x", size)})
-	}
-	return list
-}
-
-func sameSnap(a, b api.Snap) bool {
-	return a.Index == b.Index && a.Term == b.Term && slices.Equal(a.Members, b.Members) && a.Data == b.Data
-}
-
-func cloneSnap(s api.Snap) api.Snap {
-	s.Members = slices.Clone(s.Members)
-	return s
-}
 
 func brief(s api.Snap) string {
 	return fmt.Sprintf("{%d %d %v %.10q, %d bytes}", s.Index, s.Term, s.Members, s.Data, len(s.Data))

@@ -1,7 +1,6 @@
 package wal_test
 
 import (
-	"math"
 	"math/rand"
 	"strings"
 	"testing"
@@ -10,53 +9,6 @@ import (
 	"gaffer/pack"
 	"gaffer/wal"
 )
-
-func rights() []api.Entry {
-	return []api.Entry{
-		{Index: 1, Kind: api.EntryLead},
-		{Index: most, Term: most, Kind: api.EntryLead},
-		{Index: api.MaxNumber, Term: api.MaxNumber, Kind: api.EntryLead, Members: []int{}},
-		{Index: 1, Kind: api.EntryOrder},
-		{Index: 1, Kind: api.EntryOrder, Members: []int{}},
-		{Index: 256, Term: 1, Kind: api.EntryOrder, Data: "\x00"},
-		{Index: 1, Term: 255, Kind: api.EntryOrder, Data: strings.Repeat("\xff", maxBig-1)},
-		{Index: most, Term: most, Kind: api.EntryOrder, Data: strings.Repeat("x", maxBig)},
-		members(1, 1),
-		members(2, 7),
-		members(3, 1, 7),
-		members(4, 2, 3, 5),
-		members(most, 1, 2, 3, 4, 5, 6, 7),
-	}
-}
-
-func wrongs() []api.Entry {
-	list := []api.Entry{
-		{},
-		{Index: 1},
-		{Index: 1, Data: "x"},
-		{Index: 1, Members: []int{1}},
-		{Kind: api.EntryLead},
-		{Term: 1, Kind: api.EntryOrder, Data: "x"},
-		{Term: 1, Kind: api.EntryMembers, Members: []int{1}},
-		{Index: 1, Kind: api.EntryCount},
-		{Index: 1, Kind: api.EntryCount, Data: "x"},
-		{Index: 1, Kind: api.EntryCount, Members: []int{1}},
-		{Index: 1, Kind: 255},
-		{Index: 1, Kind: api.EntryLead, Data: "x"},
-		{Index: 1, Kind: api.EntryLead, Data: "\x00"},
-		{Index: 1, Kind: api.EntryLead, Members: []int{1}},
-		{Index: 1, Kind: api.EntryOrder, Members: []int{1}},
-		{Index: 1, Kind: api.EntryOrder, Data: "x", Members: []int{1, 2}},
-		{Index: 1, Kind: api.EntryOrder, Data: strings.Repeat("x", maxBig+1)},
-		{Index: 1, Kind: api.EntryOrder, Data: strings.Repeat("x", api.MaxData)},
-		{Index: 1, Kind: api.EntryOrder, Data: strings.Repeat("x", api.MaxData+1)},
-		{Index: 1, Kind: api.EntryMembers, Data: "x", Members: []int{1}},
-	}
-	for _, l := range [][]int{nil, {}, {0}, {8}, {-1}, {math.MinInt}, {math.MaxInt}, {256}, {1, 1}, {2, 1}, {0, 1}, {1, 8}, {1, 3, 2}, {1, 2, 2}, {-1, 1}, {1, 2, 3, 4, 5, 6, 7, 7}, {1, 2, 3, 4, 5, 6, 7, 8}, {0, 1, 2, 3, 4, 5, 6, 7}} {
-		list = append(list, members(1, l...))
-	}
-	return list
-}
 
 // 3.1: Check.
 func TestCheck(t *testing.T) {

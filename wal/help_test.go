@@ -4,12 +4,12 @@ import (
 	"fmt"
 	"math"
 	"math/rand"
-	"slices"
 	"testing"
 
 	"gaffer/api"
 	"gaffer/disk"
 	"gaffer/disktest"
+	"gaffer/logtest"
 	"gaffer/pack"
 	"gaffer/wal"
 )
@@ -47,21 +47,6 @@ func some(from uint64, n int) []api.Entry {
 	return l
 }
 
-func copied(l []api.Entry) []api.Entry {
-	l = slices.Clone(l)
-	for i := range l {
-		l[i].Members = slices.Clone(l[i].Members)
-	}
-	return l
-}
-
-// equal takes nil and empty lists for alike.
-func equal(a, b api.Entry) bool {
-	return a.Index == b.Index && a.Term == b.Term && a.Kind == b.Kind && a.Data == b.Data && slices.Equal(a.Members, b.Members)
-}
-
-func equals(a, b []api.Entry) bool { return slices.EqualFunc(a, b, equal) }
-
 // raw is an entry's bytes, right or not: the numbers are Index, Term and Kind.
 func raw(index, term, kind uint64, data string, list ...uint64) string {
 	s := pack.Number(index) + pack.Number(term) + pack.Number(kind) + pack.Text(data) + pack.Number(uint64(len(list)))
@@ -98,14 +83,19 @@ func content(l ...api.Entry) string {
 
 func name(first uint64) string { return fmt.Sprintf("w/%016x", first) }
 
-// What the tests of all that stands on a disk have.
+// What the tests of all that has entries, or stands on a disk, have.
 var (
-	file  = disktest.File
-	disks = disktest.Of
-	with  = disktest.With
-	clone = disktest.Clone
-	same  = disktest.Same
-	brief = disktest.Brief
+	rights = logtest.RightEntries
+	wrongs = logtest.WrongEntries
+	copied = logtest.CloneEntries
+	equal  = logtest.SameEntry
+	equals = logtest.SameEntries
+	file   = disktest.File
+	disks  = disktest.Of
+	with   = disktest.With
+	clone  = disktest.Clone
+	same   = disktest.Same
+	brief  = disktest.Brief
 )
 
 // segment is a file of these entries, and of what is torn behind them.
