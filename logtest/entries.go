@@ -1,4 +1,4 @@
-// Package logtest is for tests alone: entries, snapshots and logs to ask a layer with, right ones and wrong ones, and what its answers are held against.
+// Package logtest is for tests alone: entries, snapshots, logs and messages to ask a layer with, right ones and wrong ones, and what its answers are held against.
 package logtest
 
 import (
@@ -70,14 +70,14 @@ func WrongEntries() []api.Entry {
 		Order(1, 0, strings.Repeat("x", api.MaxData+1)),
 		{Index: 1, Kind: api.EntryMembers, Data: "x", Members: []int{1}},
 	}
-	for _, l := range append(wrongMembers(), nil, []int{}) {
+	for _, l := range append(WrongMembers(), nil, []int{}) {
 		list = append(list, Members(1, 4, l...))
 	}
 	return list
 }
 
-// wrongMembers are some, but not right.
-func wrongMembers() [][]int {
+// WrongMembers are some, but not right.
+func WrongMembers() [][]int {
 	return [][]int{{0}, {8}, {9}, {-1}, {math.MinInt}, {math.MaxInt}, {256}, {257}, {1 << 32}, {1<<32 + 1}, {1, 1}, {2, 1}, {0, 1}, {1, 0}, {1, 8}, {1, 3, 2}, {1, 2, 2}, {1, 2, 8}, {-1, 1}, {1, 2, 3, 4, 5, 6, 7, 7}, {1, 2, 3, 4, 5, 6, 7, 8}, {0, 1, 2, 3, 4, 5, 6, 7}, {7, 6, 5, 4, 3, 2, 1}}
 }
 

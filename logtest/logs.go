@@ -119,11 +119,7 @@ func Brief(l api.Log) string {
 func BriefEntries(l []api.Entry) string {
 	s := strconv.Itoa(len(l)) + " entries"
 	for _, e := range l[:min(8, len(l))] {
-		s += " {" + strconv.FormatUint(e.Index, 10) + " " + strconv.FormatUint(e.Term, 10) + " " + strconv.Itoa(int(e.Kind)) + " " + strconv.Quote(e.Data[:min(9, len(e.Data))]) + ":" + strconv.Itoa(len(e.Data))
-		for _, m := range e.Members[:min(8, len(e.Members))] {
-			s += " " + strconv.Itoa(m)
-		}
-		s += "}"
+		s += " {" + strconv.FormatUint(e.Index, 10) + " " + strconv.FormatUint(e.Term, 10) + " " + strconv.Itoa(int(e.Kind)) + " " + strconv.Quote(e.Data[:min(9, len(e.Data))]) + ":" + strconv.Itoa(len(e.Data)) + BriefMembers(e.Members) + "}"
 	}
 	return s
 }

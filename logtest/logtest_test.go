@@ -7,11 +7,12 @@ import (
 	"gaffer/api"
 	"gaffer/log"
 	"gaffer/logtest"
+	"gaffer/msg"
 	"gaffer/snap"
 	"gaffer/wal"
 )
 
-// What is said of entries, snapshots and logs is so.
+// What is said of entries, snapshots, logs and messages is so.
 func TestRightAndWrong(t *testing.T) {
 	for i, e := range logtest.RightEntries() {
 		if why := wal.Check(e); why != api.OK {
@@ -46,6 +47,21 @@ func TestRightAndWrong(t *testing.T) {
 			t.Errorf("wrong log %s is right", what)
 		}
 	}
+	for i, m := range logtest.RightMsgs() {
+		if why := msg.Check(m); why != api.OK {
+			t.Errorf("right message %d: error %d", i, why)
+		}
+	}
+	for what, m := range logtest.WrongMsgs() {
+		if why := msg.Check(m); why == api.OK {
+			t.Errorf("wrong message %s is right", what)
+		}
+	}
+	for i, m := range logtest.OverfullMsgs() {
+		if why := msg.Check(m); why == api.OK {
+			t.Errorf("overfull message %d is right", i)
+		}
+	}
 }
 
 // Each field counts, nil and empty lists are alike.
@@ -71,6 +87,32 @@ func TestSame(t *testing.T) {
 	for i, s := range []api.Snap{{Index: 1}, {Term: 1}, {Members: []int{1}}, {Data: "x"}} {
 		if logtest.SameSnap(s, api.Snap{}) || !logtest.SameSnap(s, logtest.CloneSnap(s)) {
 			t.Errorf("snapshot %d is not itself", i)
+		}
+	}
+}
+
+// Each field of a message counts, too.
+func TestSameMsg(t *testing.T) {
+	all := api.Msg{Kind: api.MsgAppend, Term: 4, Index: 3, LogTerm: 2, Commit: 5, Ok: true, Entries: logtest.Batch(3, 2), Snap: logtest.SomeSnap()}
+	if !logtest.SameMsg(all, logtest.CloneMsg(all)) || !logtest.SameMsg(api.Msg{}, api.Msg{Entries: []api.Entry{}, Snap: api.Snap{Members: []int{}}}) {
+		t.Error("what is alike is told to be another one")
+	}
+	for i, change := range []func(m *api.Msg){
+		func(m *api.Msg) { m.Kind = api.MsgAsk },
+		func(m *api.Msg) { m.Term++ },
+		func(m *api.Msg) { m.Index++ },
+		func(m *api.Msg) { m.LogTerm++ },
+		func(m *api.Msg) { m.Commit++ },
+		func(m *api.Msg) { m.Ok = false },
+		func(m *api.Msg) { m.Entries = m.Entries[:1] },
+		func(m *api.Msg) { m.Entries[1].Members[0]++ },
+		func(m *api.Msg) { m.Snap.Index++ },
+		func(m *api.Msg) { m.Snap.Members[0]++ },
+		func(m *api.Msg) { m.Snap.Data = "" },
+	} {
+		other := logtest.CloneMsg(all)
+		if change(&other); logtest.SameMsg(other, all) || logtest.BriefMsg(other) == logtest.BriefMsg(all) {
+			t.Errorf("change %d is not seen", i)
 		}
 	}
 }

@@ -2,6 +2,7 @@ package logtest
 
 import (
 	"slices"
+	"strconv"
 	"strings"
 
 	"gaffer/api"
@@ -25,7 +26,7 @@ func RightSnaps() []api.Snap {
 // WrongSnaps are not right.
 func WrongSnaps() []api.Snap {
 	list := []api.Snap{{Index: 1}, {Index: most}, {Term: 1}, {Term: most}, {Data: "x"}, {Data: "\x00"}, {Index: 1, Members: []int{}}, {Index: 1, Term: 1, Data: "state"}, {Data: strings.Repeat("x", snapMax+1)}}
-	for _, members := range wrongMembers() {
+	for _, members := range WrongMembers() {
 		list = append(list, api.Snap{Members: members}, api.Snap{Index: 16, Term: 2, Members: members, Data: "state"})
 	}
 	for _, size := range []int{snapMax + 1, snapMax + 2, api.MaxData - 1, api.MaxData, api.MaxData + 1, 2 * api.MaxData} {
@@ -40,5 +41,18 @@ func SameSnap(a, b api.Snap) bool {
 
 func CloneSnap(s api.Snap) api.Snap {
 	s.Members = slices.Clone(s.Members)
+	return s
+}
+
+// BriefSnap is few words on s, however much is there.
+func BriefSnap(s api.Snap) string {
+	return "{of " + strconv.FormatUint(s.Index, 10) + " " + strconv.FormatUint(s.Term, 10) + BriefMembers(s.Members) + " " + strconv.Quote(s.Data[:min(9, len(s.Data))]) + ":" + strconv.Itoa(len(s.Data)) + "}"
+}
+
+func BriefMembers(members []int) string {
+	s := ""
+	for _, m := range members[:min(8, len(members))] {
+		s += " " + strconv.Itoa(m)
+	}
 	return s
 }

@@ -1,11 +1,7 @@
 package msg_test
 
 import (
-	"fmt"
 	"math"
-	"slices"
-	"strconv"
-	"strings"
 
 	"gaffer/api"
 	"gaffer/logtest"
@@ -17,201 +13,22 @@ const most = math.MaxUint64
 
 // What the tests of all that has entries, or bytes, have.
 var (
-	lead    = logtest.Lead
-	order   = logtest.Order
-	members = logtest.Members
-	broken  = ordertest.Broken
-	turned  = ordertest.Turned
+	lead       = logtest.Lead
+	order      = logtest.Order
+	members    = logtest.Members
+	bulky      = logtest.Bulky
+	someSnap   = logtest.SomeSnap
+	ofEachKind = logtest.MsgsOfEachKind
+	widest     = logtest.WidestMsgs
+	rights     = logtest.RightMsgs
+	wrongs     = logtest.WrongMsgs
+	overfull   = logtest.OverfullMsgs
+	same       = logtest.SameMsg
+	clone      = logtest.CloneMsg
+	brief      = logtest.BriefMsg
+	broken     = ordertest.Broken
+	turned     = ordertest.Turned
 )
-
-// numbers are at the edges of what is spelt with so many bytes; the first one is 0.
-func numbers() []uint64 {
-	return []uint64{0, 1, 255, 256, 65535, 65536, 1<<32 - 1, 1 << 32, api.MaxNumber, api.MaxNumber + 1, most - 1, most}
-}
-
-// someSnap is right.
-func someSnap() api.Snap {
-	return api.Snap{Index: 5, Term: 1, Members: []int{1, 2, 7}, Data: "state"}
-}
-
-// batch are so many entries of all kinds behind index.
-func batch(index uint64, n int) []api.Entry {
-	var l []api.Entry
-	for i := range n {
-		at := index + 1 + uint64(i)
-		switch i % 3 {
-		case 0:
-			l = append(l, order(at, 3, "data "+strconv.Itoa(i)))
-		case 1:
-			l = append(l, members(at, 3, 1, 2+i%5, 7))
-		default:
-			l = append(l, lead(at, 4))
-		}
-	}
-	return l
-}
-
-// bulky are so many entries that need as many bytes as may be, the last one being the last that there is.
-func bulky(n int) []api.Entry {
-	var l []api.Entry
-	for i := range n {
-		l = append(l, order(most-uint64(n-1-i), most, strings.Repeat("x", 4096)))
-	}
-	return l
-}
-
-// widest are an append and an install that need as many bytes as may be.
-func widest() []api.Msg {
-	return []api.Msg{
-		{Kind: api.MsgAppend, Term: most, Index: most - api.MaxBatch, LogTerm: most, Commit: most, Entries: bulky(api.MaxBatch)},
-		{Kind: api.MsgInstall, Term: most, Snap: api.Snap{Index: most, Term: most, Members: []int{1, 2, 3, 4, 5, 6, 7}, Data: strings.Repeat("z", 64512)}},
-	}
-}
-
-// ofEachKind are of few bytes, with something in each field that the kind has.
-func ofEachKind() []api.Msg {
-	return []api.Msg{
-		{Kind: api.MsgAsk, Term: 2, Index: 3, LogTerm: 1},
-		{Kind: api.MsgVoted, Term: 2, Ok: true},
-		{Kind: api.MsgAppend, Term: 4, Index: 300, LogTerm: 3, Commit: 299, Entries: batch(300, 4)},
-		{Kind: api.MsgAppended, Term: 2, Ok: true, Index: 4},
-		{Kind: api.MsgInstall, Term: 2, Snap: someSnap()},
-	}
-}
-
-// rights are messages at all edges.
-func rights() []api.Msg {
-	list := append(ofEachKind(), widest()...)
-	for _, n := range numbers() {
-		for _, ok := range []bool{false, true} {
-			list = append(list, api.Msg{Kind: api.MsgVoted, Term: max(n, 1), Ok: ok}, api.Msg{Kind: api.MsgAppended, Term: max(n, 1), Ok: ok, Index: most - n}, api.Msg{Kind: api.MsgAppended, Term: 1, Ok: ok, Index: n})
-		}
-		list = append(list,
-			api.Msg{Kind: api.MsgAsk, Term: max(n, 1)}, api.Msg{Kind: api.MsgAsk, Term: 1, Index: n}, api.Msg{Kind: api.MsgAsk, Term: 1, LogTerm: n},
-			api.Msg{Kind: api.MsgAppend, Term: max(n, 1)}, api.Msg{Kind: api.MsgAppend, Term: 1, Index: n}, api.Msg{Kind: api.MsgAppend, Term: 1, LogTerm: n}, api.Msg{Kind: api.MsgAppend, Term: 1, Commit: n},
-			api.Msg{Kind: api.MsgInstall, Term: max(n, 1), Snap: someSnap()},
-		)
-	}
-	for n := range api.MaxBatch + 1 {
-		list = append(list, api.Msg{Kind: api.MsgAppend, Term: 2, Index: 3, Entries: batch(3, n)}, api.Msg{Kind: api.MsgAppend, Term: 2, Entries: batch(0, n)}, api.Msg{Kind: api.MsgAppend, Term: 2, Index: most - uint64(n), Entries: batch(most-uint64(n), n)})
-	}
-	for _, e := range logtest.RightEntries() {
-		list = append(list, api.Msg{Kind: api.MsgAppend, Term: 1, Index: e.Index - 1, Entries: []api.Entry{e}})
-	}
-	for _, s := range logtest.RightSnaps() {
-		if s.Index > 0 {
-			list = append(list, api.Msg{Kind: api.MsgInstall, Term: 1, Snap: s})
-		}
-	}
-	return append(list,
-		api.Msg{Kind: api.MsgAppend, Term: 1, Entries: []api.Entry{}},
-		api.Msg{Kind: api.MsgAppend, Term: 5, Index: 2, Entries: []api.Entry{lead(3, 9), lead(4, 1), lead(5, 0)}}, // of what Terms they are is no matter here
-	)
-}
-
-// wrongs are those with a fault in what their kind has, or of no kind: so their bytes have it, too.
-func wrongs() map[string]api.Msg {
-	list := map[string]api.Msg{}
-	for i, m := range rights() {
-		m.Term = 0
-		list["Term 0, "+strconv.Itoa(i)] = m
-	}
-	for _, kind := range []api.MsgKind{api.MsgNone, api.MsgCount, api.MsgCount + 1, 128, 254, 255} {
-		list["no kind: "+strconv.Itoa(int(kind))] = api.Msg{Kind: kind, Term: 1}
-	}
-	add := func(what string, index uint64, l ...api.Entry) {
-		list["entries: "+what] = api.Msg{Kind: api.MsgAppend, Term: 9, Index: index, Entries: l}
-	}
-	add("one too many", 3, batch(3, api.MaxBatch+1)...)
-	add("one too many, of a byte each", 0, slices.Repeat(batch(0, 1), api.MaxBatch+1)...)
-	add("twice too many", 3, batch(3, 2*api.MaxBatch)...)
-	add("far too many", 0, batch(0, 256)...)
-	add("of the Index itself", 3, batch(2, 2)...)
-	add("behind a gap", 3, batch(4, 2)...)
-	add("from 2 on", 0, batch(1, 1)...)
-	add("far behind", 3, batch(1<<32+3, 1)...)
-	add("far ahead", 1<<32+3, batch(3, 1)...)
-	add("with a gap", 3, append(batch(3, 2), lead(7, 9))...)
-	add("with a gap at the end", 3, append(batch(3, 7), lead(12, 9))...)
-	add("one twice", 3, append(batch(3, 2), lead(5, 9))...)
-	add("that fall", 3, lead(5, 1), lead(4, 1))
-	add("of Index 0", 0, lead(0, 1))
-	add("wrapped round", most, lead(0, 1))
-	add("wrapped round to 1", most, lead(1, 1))
-	add("wrapped round within", most-1, lead(most, 1), lead(0, 1))
-	for i, e := range logtest.WrongEntries() {
-		add("wrong one "+strconv.Itoa(i), 0, e)
-		if e.Index > 0 {
-			e.Index = 5
-		}
-		add("wrong one behind others "+strconv.Itoa(i), 2, append(batch(2, 2), e)...)
-		add("wrong one ahead of others "+strconv.Itoa(i), 4, e, lead(6, 9))
-	}
-	for i, s := range logtest.WrongSnaps() {
-		list["wrong snapshot "+strconv.Itoa(i)] = api.Msg{Kind: api.MsgInstall, Term: 1, Snap: s}
-	}
-	for i, s := range logtest.RightSnaps() {
-		s.Index = 0
-		list["snapshot of Index 0, "+strconv.Itoa(i)] = api.Msg{Kind: api.MsgInstall, Term: 1, Snap: s}
-	}
-	return list
-}
-
-// overfull are messages of which all is right, but that there is something that their kind has not: in their bytes that is not to be seen.
-func overfull() []api.Msg {
-	var list []api.Msg
-	for _, m := range rights() {
-		for _, more := range extras() {
-			with := m
-			if more(&with); !same(with, m) {
-				list = append(list, with)
-			}
-		}
-	}
-	return list
-}
-
-// extras give a message something, if its kind has it not.
-func extras() []func(m *api.Msg) {
-	var list []func(m *api.Msg)
-	add := func(change func(m *api.Msg), unless ...api.MsgKind) {
-		list = append(list, func(m *api.Msg) {
-			if !slices.Contains(unless, m.Kind) {
-				change(m)
-			}
-		})
-	}
-	for _, n := range []uint64{1, 1 << 32, most} {
-		add(func(m *api.Msg) { m.Index = n }, api.MsgAsk, api.MsgAppend, api.MsgAppended)
-		add(func(m *api.Msg) { m.LogTerm = n }, api.MsgAsk, api.MsgAppend)
-		add(func(m *api.Msg) { m.Commit = n }, api.MsgAppend)
-		add(func(m *api.Msg) { m.Snap.Index = n }, api.MsgInstall)
-		add(func(m *api.Msg) { m.Snap.Term = n }, api.MsgInstall)
-	}
-	add(func(m *api.Msg) { m.Ok = true }, api.MsgVoted, api.MsgAppended)
-	add(func(m *api.Msg) { m.Entries = batch(m.Index, 1) }, api.MsgAppend)
-	add(func(m *api.Msg) { m.Entries = []api.Entry{{}} }, api.MsgAppend)
-	add(func(m *api.Msg) { m.Snap = someSnap() }, api.MsgInstall)
-	add(func(m *api.Msg) { m.Snap.Members = []int{1} }, api.MsgInstall)
-	add(func(m *api.Msg) { m.Snap.Members = []int{0} }, api.MsgInstall)
-	add(func(m *api.Msg) { m.Snap.Data = "\x00" }, api.MsgInstall)
-	return list
-}
-
-// same takes nil and empty lists for alike.
-func same(a, b api.Msg) bool {
-	return a.Kind == b.Kind && a.Term == b.Term && a.Index == b.Index && a.LogTerm == b.LogTerm && a.Commit == b.Commit && a.Ok == b.Ok && logtest.SameEntries(a.Entries, b.Entries) && logtest.SameSnap(a.Snap, b.Snap)
-}
-
-func clone(m api.Msg) api.Msg {
-	m.Entries, m.Snap = logtest.CloneEntries(m.Entries), logtest.CloneSnap(m.Snap)
-	return m
-}
-
-// brief is few words on m, however much is there.
-func brief(m api.Msg) string {
-	return fmt.Sprintf("{kind %d, %d; %d %d %d %v, %s, {%d %d %v %d bytes}}", m.Kind, m.Term, m.Index, m.LogTerm, m.Commit, m.Ok, logtest.BriefEntries(m.Entries), m.Snap.Index, m.Snap.Term, m.Snap.Members, len(m.Snap.Data))
-}
 
 // bytesOf does what the chapter says of any message, right or not.
 func bytesOf(m api.Msg) *ordertest.Bytes {

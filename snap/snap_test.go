@@ -24,11 +24,8 @@ var (
 	wrongs    = logtest.WrongSnaps
 	sameSnap  = logtest.SameSnap
 	cloneSnap = logtest.CloneSnap
+	brief     = logtest.BriefSnap
 )
-
-func brief(s api.Snap) string {
-	return fmt.Sprintf("{%d %d %v %.10q, %d bytes}", s.Index, s.Term, s.Members, s.Data, len(s.Data))
-}
 
 // bytesOf does what the chapter says of any snapshot, right or not.
 func bytesOf(s api.Snap) string {
