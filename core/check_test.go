@@ -49,15 +49,7 @@ func TestWrongReplicas(t *testing.T) {
 // are asks Members, and holds both lists against what is to be told.
 func are(t *testing.T, what string, r api.Raft, wantNow, wantSure []int) {
 	t.Helper()
-	type both struct {
-		Now, Sure []int
-		Why       api.Errno
-	}
-	type args struct{ R api.Raft }
-	got := anew(t, what, args{r}, func(a args) both {
-		now, sure, why := core.Members(a.R)
-		return both{now, sure, why}
-	})
+	got := membersOf(t, what, r)
 	if !slices.Equal(got.Now, wantNow) || !slices.Equal(got.Sure, wantSure) || got.Why != api.OK {
 		t.Errorf("%s: %v, %v, error %d; not %v, %v", what, got.Now, got.Sure, got.Why, wantNow, wantSure)
 	}

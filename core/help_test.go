@@ -14,11 +14,16 @@ import (
 
 const most = math.MaxUint64
 
-// What the tests of all that has entries, or replicas, have.
+// What the tests of all that has entries, messages or replicas have.
 var (
 	lead      = logtest.Lead
 	order     = logtest.Order
 	members   = logtest.Members
+	ask       = logtest.Ask
+	voted     = logtest.Voted
+	appends   = logtest.Appends
+	appended  = logtest.Appended
+	install   = logtest.Install
 	following = coretest.Following
 	standing  = coretest.Standing
 	leading   = coretest.Leading
@@ -26,98 +31,74 @@ var (
 	with      = coretest.With
 )
 
-// The messages.
-
-func ask(term, index, logTerm uint64) api.Msg {
-	return api.Msg{Kind: api.MsgAsk, Term: term, Index: index, LogTerm: logTerm}
-}
-
-func voted(term uint64, ok bool) api.Msg {
-	return api.Msg{Kind: api.MsgVoted, Term: term, Ok: ok}
-}
-
-func appends(term, index, logTerm, commit uint64, l ...api.Entry) api.Msg {
-	return api.Msg{Kind: api.MsgAppend, Term: term, Index: index, LogTerm: logTerm, Commit: commit, Entries: l}
-}
-
-func appended(term uint64, ok bool, index uint64) api.Msg {
-	return api.Msg{Kind: api.MsgAppended, Term: term, Ok: ok, Index: index}
-}
-
-func install(term uint64, s api.Snap) api.Msg {
-	return api.Msg{Kind: api.MsgInstall, Term: term, Snap: s}
-}
-
 func to(id int, m api.Msg) api.Post { return api.Post{To: id, Msg: m} }
 
-// stepped is all that a call tells; of those that have no Index or no posts these are zero.
-type stepped struct {
+// given are all lists that a call is handed, stepped is all that it tells; what it has not is zero.
+type given struct {
+	First []int
 	R     api.Raft
-	At    uint64
-	Posts []api.Post
-	Why   api.Errno
+	S     api.Snap
+	L     []api.Entry
+	M     api.Msg
+	E     api.Entry
+}
+
+type stepped struct {
+	R         api.Raft
+	At        uint64
+	Posts     []api.Post
+	Now, Sure []int
+	Why       api.Errno
 }
 
 // The calls, each asked by anew, and held against what goes for all of them.
 
 func newOne(t *testing.T, what string, id int, first []int, h api.Hard, s api.Snap, l []api.Entry, draw int) stepped {
 	t.Helper()
-	type args struct {
-		First []int
-		S     api.Snap
-		L     []api.Entry
-	}
-	got := anew(t, what, args{first, s, l}, func(a args) stepped {
-		r, why := core.New(id, a.First, h, a.S, a.L, draw)
+	return sound(t, what, anew(t, what, given{First: first, S: s, L: l}, func(g given) stepped {
+		r, why := core.New(id, g.First, h, g.S, g.L, draw)
 		return stepped{R: r, Why: why}
-	})
-	return sound(t, what, got)
+	}))
 }
 
 func tick(t *testing.T, what string, r api.Raft, draw int) stepped {
 	t.Helper()
-	type args struct{ R api.Raft }
-	got := anew(t, what, args{r}, func(a args) stepped {
-		r, posts, why := core.Tick(a.R, draw)
+	return forth(t, what, r, anew(t, what, given{R: r}, func(g given) stepped {
+		r, posts, why := core.Tick(g.R, draw)
 		return stepped{R: r, Posts: posts, Why: why}
-	})
-	return forth(t, what, r, got)
+	}))
 }
 
 func take(t *testing.T, what string, r api.Raft, from int, m api.Msg, draw int) stepped {
 	t.Helper()
-	type args struct {
-		R api.Raft
-		M api.Msg
-	}
-	got := anew(t, what, args{r, m}, func(a args) stepped {
-		r, posts, why := core.Take(a.R, from, a.M, draw)
+	return forth(t, what, r, anew(t, what, given{R: r, M: m}, func(g given) stepped {
+		r, posts, why := core.Take(g.R, from, g.M, draw)
 		return stepped{R: r, Posts: posts, Why: why}
-	})
-	return forth(t, what, r, got)
+	}))
 }
 
 func propose(t *testing.T, what string, r api.Raft, e api.Entry) stepped {
 	t.Helper()
-	type args struct {
-		R api.Raft
-		E api.Entry
-	}
-	got := anew(t, what, args{r, e}, func(a args) stepped {
-		r, at, posts, why := core.Propose(a.R, a.E)
-		return stepped{r, at, posts, why}
-	})
-	return forth(t, what, r, got)
+	return forth(t, what, r, anew(t, what, given{R: r, E: e}, func(g given) stepped {
+		r, at, posts, why := core.Propose(g.R, g.E)
+		return stepped{R: r, At: at, Posts: posts, Why: why}
+	}))
 }
 
 func trim(t *testing.T, what string, r api.Raft, upto uint64, data string) stepped {
 	t.Helper()
-	type args struct{ R api.Raft }
-	got := anew(t, what, args{r}, func(a args) stepped {
-		r, why := core.Trim(a.R, upto, data)
+	return forth(t, what, r, anew(t, what, given{R: r}, func(g given) stepped {
+		r, why := core.Trim(g.R, upto, data)
 		return stepped{R: r, Why: why}
+	}))
+}
+
+func membersOf(t *testing.T, what string, r api.Raft) stepped {
+	t.Helper()
+	return anew(t, what, given{R: r}, func(g given) stepped {
+		now, sure, why := core.Members(g.R)
+		return stepped{Now: now, Sure: sure, Why: why}
 	})
-	return forth(t, what, r, got)
 }
 
 // sound holds 16.7: a right replica, and right messages to others; and P2: with an error nothing else.

@@ -8,6 +8,7 @@ import (
 	"gaffer/core"
 	"gaffer/coretest"
 	"gaffer/logtest"
+	"gaffer/memtest"
 )
 
 // What is said of replicas is so.
@@ -65,5 +66,43 @@ func TestSamePosts(t *testing.T) {
 		if coretest.SamePosts(l, other) || coretest.BriefPosts(other) == coretest.BriefPosts(l) {
 			t.Errorf("list %d is not another one", i)
 		}
+	}
+}
+
+// All lists of replicas, and of what they send, are gone to.
+func TestVisit(t *testing.T) {
+	type sent struct {
+		R     api.Raft
+		Posts []api.Post
+	}
+	kind := memtest.Kind[sent]{Visit: func(v *memtest.Visitor, s *sent) {
+		coretest.Visit(v, &s.R)
+		coretest.VisitPosts(v, &s.Posts)
+	}}
+	for i, share := range []func(s *sent){
+		func(s *sent) {},
+		func(s *sent) { s.R.Votes = s.R.First },
+		func(s *sent) { s.R.Votes = s.R.First[1:2] },
+		func(s *sent) { s.R.Votes = s.R.First[:0] },
+		func(s *sent) { s.R.Snap.Members = s.R.Log.Entries[1].Members[:1] },
+		func(s *sent) { s.R.Log.Entries[3].Members = s.R.Log.Entries[1].Members },
+		func(s *sent) { s.Posts[0].Msg.Entries = s.R.Log.Entries },
+		func(s *sent) { s.Posts[0].Msg.Entries[1].Members = s.R.Log.Entries[1].Members },
+		func(s *sent) { s.Posts[1].Msg.Snap.Members = s.R.Snap.Members },
+		func(s *sent) { s.Posts[0].Msg.Entries = s.Posts[1].Msg.Entries },
+	} {
+		m := api.Msg{Entries: logtest.Batch(0, 2), Snap: logtest.SomeSnap()}
+		s := sent{coretest.Leading(), []api.Post{{To: 1, Msg: m}, {To: 2, Msg: logtest.CloneMsg(m)}}}
+		share(&s)
+		if apart := memtest.Apart(s, kind); apart != (i == 0) {
+			t.Errorf("%d: apart is %t", i, apart)
+		}
+	}
+	l := coretest.Leading().Peers
+	if got := memtest.Apart([2]api.Raft{{Peers: l}, {Peers: l[2:]}}, memtest.Kind[[2]api.Raft]{Visit: func(v *memtest.Visitor, both *[2]api.Raft) {
+		coretest.Visit(v, &both[0])
+		coretest.Visit(v, &both[1])
+	}}); got {
+		t.Error("Peers are not gone to")
 	}
 }

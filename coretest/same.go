@@ -15,9 +15,9 @@ func Same(a, b api.Raft) bool {
 		slices.Equal(a.Votes, b.Votes) && slices.Equal(a.Peers, b.Peers) && a.Wait == b.Wait
 }
 
-func SamePosts(a, b []api.Post) bool {
-	return slices.EqualFunc(a, b, func(p, q api.Post) bool { return p.To == q.To && logtest.SameMsg(p.Msg, q.Msg) })
-}
+func SamePosts(a, b []api.Post) bool { return slices.EqualFunc(a, b, samePost) }
+
+func samePost(p, q api.Post) bool { return p.To == q.To && logtest.SameMsg(p.Msg, q.Msg) }
 
 func Clone(r api.Raft) api.Raft {
 	r.First, r.Votes, r.Peers = slices.Clone(r.First), slices.Clone(r.Votes), slices.Clone(r.Peers)

@@ -8,6 +8,28 @@ import (
 	"gaffer/api"
 )
 
+// The messages, one of each kind.
+
+func Ask(term, index, logTerm uint64) api.Msg {
+	return api.Msg{Kind: api.MsgAsk, Term: term, Index: index, LogTerm: logTerm}
+}
+
+func Voted(term uint64, ok bool) api.Msg {
+	return api.Msg{Kind: api.MsgVoted, Term: term, Ok: ok}
+}
+
+func Appends(term, index, logTerm, commit uint64, l ...api.Entry) api.Msg {
+	return api.Msg{Kind: api.MsgAppend, Term: term, Index: index, LogTerm: logTerm, Commit: commit, Entries: l}
+}
+
+func Appended(term uint64, ok bool, index uint64) api.Msg {
+	return api.Msg{Kind: api.MsgAppended, Term: term, Ok: ok, Index: index}
+}
+
+func Install(term uint64, s api.Snap) api.Msg {
+	return api.Msg{Kind: api.MsgInstall, Term: term, Snap: s}
+}
+
 // numbers are at the edges of what is spelt with so many bytes; the first one is 0.
 func numbers() []uint64 {
 	return []uint64{0, 1, 255, 256, 65535, 65536, 1<<32 - 1, 1 << 32, api.MaxNumber, api.MaxNumber + 1, most - 1, most}
